@@ -7,9 +7,12 @@ import (
 	"railpoint/api"
 )
 
+// IsHeader tells whether a number is a header.
+func IsHeader(n int) bool { return 0 <= n && n < 1<<api.Width }
+
 // Check tells what is wrong with a cube.
 func Check(c api.Cube) error {
-	if !isHeader(c.Mask) || !isHeader(c.Bits) {
+	if !IsHeader(c.Mask) || !IsHeader(c.Bits) {
 		return api.ErrRange
 	}
 	if c.Bits&^c.Mask != 0 {
@@ -20,7 +23,7 @@ func Check(c api.Cube) error {
 
 // Has tells whether a header is in a cube.
 func Has(c api.Cube, header int) bool {
-	return isRight(c) && isHeader(header) && header&c.Mask == c.Bits
+	return isRight(c) && IsHeader(header) && header&c.Mask == c.Bits
 }
 
 // Print a cube.
@@ -90,8 +93,6 @@ func First(c api.Cube) int {
 	}
 	return c.Bits
 }
-
-func isHeader(n int) bool { return 0 <= n && n < 1<<api.Width }
 
 func isRight(c api.Cube) bool { return Check(c) == nil }
 

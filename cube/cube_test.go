@@ -118,6 +118,15 @@ func TestCheckEdges(t *testing.T) {
 	}
 }
 
+func TestIsHeader(t *testing.T) {
+	all := headersOf("****")
+	for _, n := range numbers() {
+		if got := IsHeader(n); got != slices.Contains(all, n) {
+			t.Errorf("IsHeader(%d): %v", n, got)
+		}
+	}
+}
+
 func TestHeadersOfRightCubes(t *testing.T) {
 	for s, c := range rightCubes() {
 		want := headersOf(s)
