@@ -204,12 +204,93 @@ func TestTableTellsWrongRules(t *testing.T) {
 	// The first that has a fault is told.
 	tells(t, api.Table{of(1, 0, 0), far, misfit}, api.ErrRange)
 	tells(t, api.Table{of(1, 0, 0), misfit, far}, api.ErrShape)
-	// A wrong rule is told ahead of those that clash, wherever it stands.
-	for i := range 3 {
-		tells(t, slices.Insert(api.Table{of(1, 3, 2), of(1, 3, 2)}, i, far), api.ErrRange)
-		tells(t, slices.Insert(api.Table{of(1, 3, 2), of(1, 3, 2)}, i, misfit), api.ErrShape)
-	}
 	tells(t, api.Table{misfit, misfit}, api.ErrShape)
+	tells(t, api.Table{far, far}, api.ErrRange)
+}
+
+// TestTableTellsTheFirstFault lays a clash and a wrong rule into tables at all places, either one ahead.
+func TestTableTellsTheFirstFault(t *testing.T) {
+	wrong := map[api.Rule]api.Errno{of(100, 0, 0): api.ErrRange, of(1, 0, 1): api.ErrShape}
+	for _, n := range []int{3, 5, 12} {
+		for first := range n {
+			for second := first + 1; second < n; second++ {
+				for bad := range n {
+					if bad == first || bad == second {
+						continue
+					}
+					for r, fault := range wrong {
+						l := distinct(n)
+						l[second] = l[first]
+						l[second].Out = 3
+						l[bad] = r
+						if bad > second {
+							fault = api.ErrClash
+						}
+						tells(t, l, fault)
+					}
+				}
+			}
+		}
+	}
+}
+
+// TestTableTellsCheckAheadOfClash: of one rule that is wrong and clashes, the fault of its own is told.
+func TestTableTellsCheckAheadOfClash(t *testing.T) {
+	for _, n := range []int{2, 7, 12} {
+		for i := 1; i < n; i++ {
+			l := distinct(n)
+			l[i] = l[0]
+			l[i].Value = 1
+			tells(t, l, api.ErrShape)
+			l[i].Value = 16
+			tells(t, l, api.ErrRange)
+		}
+	}
+}
+
+// firstFault goes over a table rule by rule, with the faults of those that are wrong at hand.
+func firstFault(l api.Table, wrong map[api.Rule]api.Errno) api.Errno {
+	for i, r := range l {
+		if e, ok := wrong[r]; ok {
+			return e
+		}
+		for _, ahead := range l[:i] {
+			if ahead.Prio == r.Prio && ahead.Cube == r.Cube {
+				return api.ErrClash
+			}
+		}
+	}
+	return api.OK
+}
+
+// TestTableTellsTheFirstOfManyFaults holds tables with several wrong and equal rules against firstFault.
+func TestTableTellsTheFirstOfManyFaults(t *testing.T) {
+	r := rand.New(rand.NewSource(11))
+	ill := []api.Rule{
+		of(100, 0, 0), of(1, 16, 0), {Prio: -1, Out: 1}, {Prio: 2, Out: 5},
+		of(1, 0, 1), {Prio: 1, Value: 1}, {Prio: 1, Set: 1}, {Prio: 2, Out: 1, Set: 2, Value: 3},
+	}
+	wrong := map[api.Rule]api.Errno{}
+	for i, x := range ill {
+		wrong[x] = api.ErrRange
+		if i >= 4 {
+			wrong[x] = api.ErrShape
+		}
+	}
+	for range 5000 {
+		l := someRules(r, 2+r.Intn(11), 3)
+		for range r.Intn(3) {
+			l[r.Intn(len(l))] = ill[r.Intn(len(ill))]
+		}
+		for range r.Intn(3) {
+			l[r.Intn(len(l))] = l[r.Intn(len(l))]
+		}
+		if want := firstFault(l, wrong); want != api.OK {
+			tells(t, l, want)
+		} else if err := Table(l); err != nil {
+			t.Errorf("Table(%v): %v", l, err)
+		}
+	}
 }
 
 func TestTableTellsClashes(t *testing.T) {
