@@ -48,3 +48,19 @@ func TestLegsThatEndStay(t *testing.T) {
 		}
 	}
 }
+
+// TestLegOfOne: that of one packet is the one that Legs has for its switch and header.
+func TestLegOfOne(t *testing.T) {
+	r := rand.New(rand.NewSource(67))
+	for range 100 {
+		n := someNet(r)
+		for i, legs := range Legs(n) {
+			for header, want := range legs {
+				in := api.Hop{At: spot(i+1, r.Intn(4)+1), Header: header}
+				if got := LegOf(n, in); got != want {
+					t.Errorf("LegOf(%v, %v): %v, want %v", n, in, got, want)
+				}
+			}
+		}
+	}
+}
